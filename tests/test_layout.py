@@ -1,0 +1,98 @@
+"""What can be seen of the package's files alone: the interface's names, sizes, characters."""
+
+import ast
+import importlib
+import inspect
+import pathlib
+import re
+import unittest
+import warnings
+
+PACKAGE = pathlib.Path(__file__).resolve().parent.parent / "textworths"
+FILES = sorted(PACKAGE.rglob("*.py"))
+
+# Functions and classes by file, with the parameters that the document gives them.
+INTERFACE = {
+    "numbers": {
+        "number": ["above", "below"], "added": ["one", "other"], "product": ["one", "other"],
+        "quotient": ["one", "other"], "power": ["one", "times"],
+    },
+    "machines": {"Machine": ["signs", "begin", "roads", "end"]},
+}
+METHODS = {
+    ("machines", "Machine"): {"__call__": ["message"], "courses": ["message"], "__len__": [], "__eq__": ["other"]},
+}
+PROPERTIES = {("machines", "Machine"): ["signs", "begin", "roads", "end"]}
+
+
+def parameters(thing):
+    return [name for name in inspect.signature(thing).parameters if name != "self"]
+
+
+class Interface(unittest.TestCase):
+    def test_names_and_parameters(self):
+        for file, names in INTERFACE.items():
+            module = importlib.import_module("textworths." + file)
+            for name, wanted in names.items():
+                thing = getattr(module, name)
+                self.assertEqual(thing.__module__, "textworths." + file)
+                self.assertEqual(parameters(thing), wanted, name)
+
+    def test_methods_stand_in_the_class_itself(self):
+        for (file, name), methods in METHODS.items():
+            own = vars(getattr(importlib.import_module("textworths." + file), name))
+            for method, wanted in methods.items():
+                self.assertEqual(parameters(own[method]), wanted, method)
+
+    def test_properties_stand_in_the_class_itself(self):
+        for (file, name), properties in PROPERTIES.items():
+            own = vars(getattr(importlib.import_module("textworths." + file), name))
+            for each in properties:
+                self.assertIsInstance(own[each], property)
+
+
+class Files(unittest.TestCase):
+    def test_only_python_files(self):
+        self.assertTrue((PACKAGE / "__init__.py").is_file())
+        others = [
+            path for path in PACKAGE.rglob("*")
+            if path.is_file() and path.suffix != ".py" and path.parent.name != "__pycache__"
+        ]
+        self.assertEqual(others, [])
+
+    def test_sizes_and_characters(self):
+        for path in FILES:
+            text = path.read_bytes().decode("ascii")
+            lines = text.split("\n")
+            self.assertTrue(all(character == "\n" or " " <= character <= "~" for character in text), path)
+            self.assertLessEqual(len(lines), 400, path)
+            self.assertLessEqual(max(map(len, lines)), 120, path)
+            for node in ast.walk(ast.parse(text)):
+                if isinstance(node, ast.FunctionDef):
+                    self.assertLessEqual(node.end_lineno - node.lineno + 1, 40, (path, node.name))
+
+    def test_no_warnings(self):
+        with warnings.catch_warnings():
+            warnings.simplefilter("error")
+            for path in FILES:
+                compile(path.read_text(), str(path), "exec")
+
+    def test_imports(self):
+        allowed = re.compile(r"textworths\.\w+|math|heapq|itertools|collections")
+        for path in FILES:
+            for node in ast.walk(ast.parse(path.read_text())):
+                self.assertNotIsInstance(node, ast.Import, path)
+                if isinstance(node, ast.ImportFrom):
+                    self.assertEqual(node.level, 0, path)
+                    self.assertTrue(allowed.fullmatch(node.module), (path, node.module))
+
+    def test_no_floats(self):
+        for path in FILES:
+            for node in ast.walk(ast.parse(path.read_text())):
+                self.assertNotIsInstance(node, ast.Div, path)
+                if isinstance(node, ast.Constant):
+                    self.assertNotIsInstance(node.value, (float, complex), path)
+
+
+if __name__ == "__main__":
+    unittest.main()

@@ -1,0 +1,1 @@
+"""Textworths: numbers of texts by finite machines."""

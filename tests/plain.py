@@ -63,3 +63,68 @@ def some_parts(source, signs, size, many, digits=1):
         for _ in range(many if size else 0)
     ]
     return numbers(), roads, numbers()
+
+
+def worths_of(machine_parts):
+    """The worths of a machine as a function from messages to fractions, which keeps what it found."""
+    begin, roads, end = machine_parts
+    return kept(lambda message: told(worth_of(begin, roads, end, message)))
+
+
+def kept(worth):
+    """The same function, which finds each value once."""
+    found = {}
+
+    def asked(message):
+        if message not in found:
+            found[message] = worth(message)
+        return found[message]
+
+    return asked
+
+
+def sum_of(rows, row):
+    """The fractions with which free rows add up to a row, None if there are none."""
+    many = len(rows)
+    lines = [[each[at] for each in rows] + [row[at]] for at in range(len(row))]
+    for column in range(many):
+        pivot = next(line for line in lines[column:] if line[column])
+        lines.remove(pivot)
+        pivot = [entry / pivot[column] for entry in pivot]
+        lines = [
+            [entry - line[column] * by for entry, by in zip(line, pivot)] if line[column] else line
+            for line in lines
+        ]
+        lines.insert(column, pivot)
+    if any(line[many] for line in lines[many:]):
+        return None
+    return [line[many] for line in lines[:many]]
+
+
+def form_by(signs, size, worth):
+    """Heads, table and worths of a tariff of at most so many heads, from its worths alone."""
+    behind = messages_to(signs, max(size - 1, 0))
+    heads, rows, found = [], [], {}
+    waiting = [""]
+    while waiting:
+        message = waiting.pop(0)
+        row = [worth(message + end) for end in behind]
+        found[message] = sum_of(rows, row)
+        if found[message] is None:
+            heads.append(message)
+            rows.append(row)
+            waiting += [message + sign for sign in signs]
+
+    def line(message):
+        if found[message] is None:
+            return [(int(head == message), 1) for head in heads]
+        numbers = [pair_of(entry) for entry in found[message]]
+        return numbers + [(0, 1)] * (len(heads) - len(numbers))
+
+    table = [[line(head + sign) for sign in signs] for head in heads]
+    return heads, table, [pair_of(worth(head)) for head in heads]
+
+
+def form_told(tariff):
+    """The form of a tariff as it tells it itself."""
+    return tariff.heads, tariff.table, tariff.worths

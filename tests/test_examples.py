@@ -15,6 +15,33 @@ EXAMPLES = {
 >>> [machine("a"), machine("aab"), machine(""), machine.courses("ab"), len(machine)]
 [(1, 2), (1, 2), (0, 1), [([0, 0, 0], (0, 1)), ([0, 1, 1], (1, 2))], 2]
 ''',
+    "tariffs": '''
+>>> from textworths.machines import Machine
+>>> from textworths.tariffs import first_apart, first_worth, free_ones, machine_of, tariff_of, told_by
+>>> tariff = tariff_of(Machine("ab", [(1, 1), (0, 1)], [(0, "a", 0, (1, 1)), (0, "a", 1, (1, 1)), (1, "a", 1, (1, 1)), (1, "b", 1, (1, 1)), (0, "b", 0, (1, 1))], [(0, 1), (1, 1)]))
+>>> [tariff.heads, tariff.worths, tariff.table, tariff("abaa"), len(tariff)]
+[['', 'a'], [(0, 1), (1, 1)], [[[(0, 1), (1, 1)], [(1, 1), (0, 1)]], [[(-1, 1), (2, 1)], [(0, 1), (1, 1)]]], (3, 1), 2]
+>>> one = tariff_of(Machine("ab", [(1, 1)], [(0, "a", 0, (1, 1)), (0, "b", 0, (1, 1))], [(1, 1)]))
+>>> [first_apart(tariff, one), first_worth(tariff), told_by(one, [tariff]), free_ones([one, tariff, one]), machine_of(one) == Machine("ab", [(1, 1)], [(0, "b", 0, (1, 1)), (0, "a", 0, (1, 1))], [(1, 1)])]
+['', 'a', None, [0, 1], True]
+''',
+    "closures": '''
+>>> from textworths.closures import again, all_alike, behind, each, just, led, lengths, only, places, plus, rest, scaled, shuffled, spelled, turned, undone, within
+>>> ones, long, ab = all_alike("ab", (1, 1)), lengths("ab"), places("ab", "ab")
+>>> [ab("abab"), plus(ab, long)("abab"), scaled(long, (1, 2))("aaa"), each(long, long)("abb"), behind(ones, ones)("ab"), behind(ones, ones) == plus(ones, long), turned(ab) == places("ab", "ba")]
+[(2, 1), (6, 1), (3, 2), (9, 1), (3, 1), True, True]
+>>> [again(just("ab", "ab"))("abab"), rest(ab, "a")("bab"), led(long, "xy", ["ab", ""])("xyx"), spelled(all_alike("ab", (1, 1)), "c", ["c", "cc"])("cccc"), only(ones, "b")("bab"), len(ab), undone(plus(ones, long), ones) == ones, undone(just("ab", ""), ones)("b"), shuffled(just("ab", "a"), just("ab", "b"))("ba"), within(ones)("ab")]
+[(1, 1), (2, 1), (4, 1), (5, 1), (0, 1), 3, True, (-1, 1), (1, 1), (6, 1)]
+''',
+    "patterns": '''
+>>> from textworths.patterns import first_double, first_fit_apart, is_single, least_fit, readings, same_messages, same_ways, ways
+>>> a, b, any_one = ("sign", "a"), ("sign", "b"), ("any",)
+>>> twice = ("then", ("many", any_one), ("then", a, ("many", any_one)))
+>>> [readings("ab", twice, "aba"), is_single("ab", twice), first_double("ab", twice), least_fit("ab", twice), is_single("ab", ("many", ("or", a, b))), same_ways("ab", ("many", any_one), ("many", ("or", a, b)))]
+[2, False, 'aa', 'a', True, True]
+>>> [same_messages("ab", twice, ("then", ("many", b), ("then", a, ("many", any_one)))), first_fit_apart("ab", ("many", a), ("many", any_one)), ways("ab", twice)("aaa")]
+[True, 'b', (3, 1)]
+''',
 }
 
 

@@ -18,11 +18,34 @@ INTERFACE = {
         "quotient": ["one", "other"], "power": ["one", "times"],
     },
     "machines": {"Machine": ["signs", "begin", "roads", "end"]},
+    "tariffs": {
+        "Tariff": ["signs", "heads", "table", "worths"], "tariff_of": ["machine"], "machine_of": ["tariff"],
+        "first_apart": ["one", "other"], "first_worth": ["tariff"], "told_by": ["tariff", "others"],
+        "free_ones": ["tariffs"],
+    },
+    "closures": {
+        "plus": ["one", "other"], "scaled": ["one", "number"], "each": ["one", "other"], "behind": ["one", "other"],
+        "again": ["one"], "undone": ["one", "other"], "shuffled": ["one", "other"], "within": ["one"],
+        "turned": ["one"], "rest": ["one", "message"], "before": ["one", "message"],
+        "led": ["one", "signs", "words"], "spelled": ["one", "signs", "words"], "only": ["one", "signs"],
+        "all_alike": ["signs", "number"], "just": ["signs", "message"], "lengths": ["signs"],
+        "places": ["signs", "part"], "powers": ["one", "times"],
+    },
+    "patterns": {
+        "ways": ["signs", "pattern"], "readings": ["signs", "pattern", "message"], "is_single": ["signs", "pattern"],
+        "first_double": ["signs", "pattern"], "same_ways": ["signs", "one", "other"],
+        "same_messages": ["signs", "one", "other"], "first_fit_apart": ["signs", "one", "other"],
+        "without": ["signs", "pattern", "sign"], "least_fit": ["signs", "pattern"],
+    },
 }
 METHODS = {
     ("machines", "Machine"): {"__call__": ["message"], "courses": ["message"], "__len__": [], "__eq__": ["other"]},
+    ("tariffs", "Tariff"): {"__call__": ["message"], "__len__": [], "__eq__": ["other"]},
 }
-PROPERTIES = {("machines", "Machine"): ["signs", "begin", "roads", "end"]}
+PROPERTIES = {
+    ("machines", "Machine"): ["signs", "begin", "roads", "end"],
+    ("tariffs", "Tariff"): ["signs", "heads", "table", "worths"],
+}
 
 
 def parameters(thing):

@@ -7,6 +7,7 @@ from plain import courses_of, messages_to, pair_of, some_parts, told, worth_of
 from textworths.errors import InvalidMachine, InvalidNumber, InvalidSigns, UnknownSign
 from textworths.machines import Machine
 from textworths.numbers import number
+from textworths.tariffs import machine_of, tariff_of
 
 ONE, NONE, HALF = (1, 1), (0, 1), (1, 2)
 BEGIN = [(1, 1), (0, 1)]
@@ -349,6 +350,17 @@ class Equality(unittest.TestCase):
                       Machine, object(), Likeness(), InvalidMachine(1), machine.courses):
             self.unlike(machine, other)
         self.unlike(Machine("a", [], [], []), None)
+
+    def test_tariffs(self):
+        machine = Machine("ab", BEGIN, ROADS, END)
+        tariff = tariff_of(machine)
+        self.unlike(machine, tariff)
+        self.unlike(machine_of(tariff), tariff)
+        self.unlike(Machine("a", [], [], []), tariff_of(Machine("a", [], [], [])))
+        self.assertEqual(machine_of(tariff), machine_of(tariff_of(machine_of(tariff))))
+
+    def test_members(self):
+        machine = Machine("ab", BEGIN, ROADS, END)
         self.assertNotIn(machine, [None, "ab", 3])
         self.assertIn(machine, [None, Machine("ab", BEGIN, ROADS[::-1], END)])
 

@@ -1,10 +1,9 @@
 """Machines: states, roads between them, and the worths that they give to messages."""
 
 from textworths.errors import InvalidMachine
-from textworths.numbers import check_numbers, common_below, number, product, shortened
+from textworths.numbers import check_numbers, product
 from textworths.signs import check_message, check_sign, check_signs
-
-LEAST_BITS = 1000
+from textworths.steps import Steps
 
 
 class Machine:
@@ -23,10 +22,7 @@ class Machine:
         self._begin = list(begin)
         self._roads = list(roads)
         self._end = list(end)
-        # Whole numbers over one below for each sign spare a division at every road.
-        self._first = common_below(begin)
-        self._steps = {sign: _step(roads, sign) for sign in signs}
-        self._last = common_below(end)
+        self._steps = Steps(signs, begin, roads, end)
 
     @property
     def signs(self):
@@ -51,17 +47,7 @@ class Machine:
     def __call__(self, message):
         """Returns the worth of a message, the sum of those of its courses."""
         check_message(self._signs, message)
-        below, row = self._first
-        limit = LEAST_BITS
-        for sign in message:
-            factor, roads = self._steps[sign]
-            below, row = below * factor, _led_on(row, roads)
-            # Shortening is dear: it waits until the integers are twice as long.
-            if below.bit_length() > limit:
-                below, row = shortened(below, row)
-                limit = LEAST_BITS + 2 * below.bit_length()
-        factor, ends = self._last
-        return number(sum([above * end for above, end in zip(row, ends)]), below * factor)
+        return self._steps.worth(message)
 
     def courses(self, message):
         """Returns the ascending list of the courses (states, worth) of a message."""
@@ -89,21 +75,6 @@ def _check_road(signs, size, road):
     check_sign(signs, road[1])
     if not 0 <= road[2] < size:
         raise InvalidMachine(road)
-
-
-def _step(roads, sign):
-    """Returns (below, list of (state, next, above)) of the roads of a sign."""
-    taken = [road for road in roads if road[1] == sign]
-    below, aboves = common_below([road[3] for road in taken])
-    return below, [(road[0], road[2], above) for road, above in zip(taken, aboves)]
-
-
-def _led_on(row, roads):
-    """Returns the worths at the states behind one sign more."""
-    behind = [0] * len(row)
-    for state, goal, above in roads:
-        behind[goal] += row[state] * above
-    return behind
 
 
 def _passable(size, roads, message):

@@ -59,6 +59,20 @@ def check_numbers(pairs):
         check_number(pair)
 
 
+def check_numbers_within(things):
+    """Raises an error for the first tuple in lists of any depth that is no number."""
+    for thing in things:
+        if isinstance(thing, list):
+            check_numbers_within(thing)
+        elif is_pair(thing):
+            check_number(thing)
+
+
+def is_pair(thing):
+    """Tells whether something is a tuple of two integers."""
+    return isinstance(thing, tuple) and len(thing) == 2 and all([isinstance(part, int) for part in thing])
+
+
 def common_below(pairs):
     """Returns (below, aboves): the numbers of a list over one integer below."""
     below = 1

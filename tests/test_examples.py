@@ -42,6 +42,22 @@ EXAMPLES = {
 >>> [same_messages("ab", twice, ("then", ("many", b), ("then", a, ("many", any_one)))), first_fit_apart("ab", ("many", a), ("many", any_one)), ways("ab", twice)("aaa")]
 [True, 'b', (3, 1)]
 ''',
+    "readings": '''
+>>> from textworths.closures import places
+>>> from textworths.readings import read_machine, read_number, read_pattern, read_tariff
+>>> from textworths.texts import show_machine, show_number, show_pattern, show_tariff
+>>> [show_number((-3, 2)), read_number("5"), show_pattern(("then", ("many", ("or", ("sign", "a"), ("any",))), ("weigh", (1, 2), ("sign", "b")))), read_pattern("((a b)* + 2[1])")]
+['-3/2', (5, 1), '((a + .)* 1/2[b])', ('or', ('many', ('then', ('sign', 'a'), ('sign', 'b'))), ('weigh', (2, 1), ('empty',)))]
+>>> [show_tariff(places("a", "a")), read_tariff("a | -=0 ; 0 1 | a=1 ; -1 2") == places("a", "a"), show_machine(read_machine("ab ; 1 0 ; 0 a 1 1/2 , 1 b 1 1 ; 0 1"))]
+['a | -=0 ; 0 1 | a=1 ; -1 2', True, 'ab ; 1 0 ; 0 a 1 1/2 , 1 b 1 1 ; 0 1']
+''',
+    "sums": '''
+>>> from textworths.closures import all_alike, places
+>>> from textworths.sums import counted, first_total, first_unlike_total, last_out, mean, part_total, recurrence, total, totals
+>>> ones, many = all_alike("ab", (1, 1)), places("ab", "a")
+>>> [total(many, 3), totals(many, 4), mean(many, 3), recurrence(many), first_total(many), first_unlike_total(ones, many), part_total(ones, "a", 2, 3), last_out(ones)("ab"), counted(ones, "a") == many]
+[(12, 1), [(0, 1), (1, 1), (4, 1), (12, 1)], (3, 2), [(4, 1), (-4, 1)], 1, 0, (3, 1), (2, 1), True]
+''',
 }
 
 

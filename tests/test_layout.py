@@ -37,6 +37,18 @@ INTERFACE = {
         "same_messages": ["signs", "one", "other"], "first_fit_apart": ["signs", "one", "other"],
         "without": ["signs", "pattern", "sign"], "least_fit": ["signs", "pattern"],
     },
+    "texts": {
+        "show_number": ["number"], "show_pattern": ["pattern"], "show_machine": ["machine"], "show_tariff": ["tariff"],
+    },
+    "readings": {
+        "read_number": ["text"], "read_pattern": ["text"], "read_machine": ["text"], "read_tariff": ["text"],
+    },
+    "sums": {
+        "total": ["tariff", "length"], "totals": ["tariff", "many"], "mean": ["tariff", "length"],
+        "recurrence": ["tariff"], "first_total": ["tariff"], "first_unlike_total": ["one", "other"],
+        "part_total": ["tariff", "sign", "times", "length"], "counted": ["tariff", "sign"], "last_out": ["tariff"],
+        "first_out": ["tariff"],
+    },
 }
 METHODS = {
     ("machines", "Machine"): {"__call__": ["message"], "courses": ["message"], "__len__": [], "__eq__": ["other"]},

@@ -44,8 +44,12 @@ def form_of(signs, steps):
         else:
             told[message] = numbers
         at += 1
-    table = [[_told_by_all(heads, told, head + sign) for sign in signs] for head in heads]
-    return heads, table, worths
+    return heads, table_of(signs, heads, told), worths
+
+
+def table_of(signs, heads, told):
+    """Returns the table of heads, and of the numbers that tell the rests behind other messages by them."""
+    return [[_told_by_all(heads, told, head + sign) for sign in signs] for head in heads]
 
 
 def seen(row, seen_by):

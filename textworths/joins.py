@@ -36,3 +36,8 @@ def pairs(one, other):
 def kept_to(parts, signs):
     """Returns parts with the roads of some signs alone."""
     return parts[0], [road for road in parts[1] if road[1] in signs], parts[2]
+
+
+def along(parts):
+    """Returns parts over the one sign `a` that give each length the sum of the worths of its messages."""
+    return parts[0], [(state, "a", goal, entry) for state, _, goal, entry in parts[1]], parts[2]

@@ -46,10 +46,15 @@ def power(one, times):
     return (above, below)
 
 
+def is_number(pair):
+    """Tells whether a tuple of two integers is a number."""
+    above, below = pair
+    return below >= 1 and gcd(above, below) == 1
+
+
 def check_number(pair):
     """Raises an error if a tuple of two integers is no number."""
-    above, below = pair
-    if below < 1 or gcd(above, below) != 1:
+    if not is_number(pair):
         raise InvalidNumber(pair)
 
 

@@ -25,3 +25,12 @@ def check_message(signs, message):
     """Raises an error for the first sign of a message that is none of the signs."""
     for sign in message:
         check_sign(signs, sign)
+
+
+def messages_to(signs, length):
+    """Returns all messages of at most so many signs, in their order; none if that is less than 0."""
+    found, last = [], [""] if length >= 0 else []
+    for _ in range(length + 1):
+        found.extend(last)
+        last = [message + sign for message in last for sign in signs]
+    return found

@@ -23,7 +23,7 @@ class Steps:
         limit = LEAST_BITS
         for sign in message:
             factor, roads = self.of_sign[sign]
-            below, row = below * factor, _led_on(row, roads)
+            below, row = below * factor, led_on(row, roads)
             # Shortening is dear: it waits until the integers are twice as long.
             if below.bit_length() > limit:
                 below, row = shortened(below, row)
@@ -68,7 +68,7 @@ def _whole_roads(roads, sign):
     return below, [(road[0], road[2], above) for road, above in zip(taken, aboves)]
 
 
-def _led_on(row, roads):
+def led_on(row, roads):
     """Returns the worths at the states behind one sign more."""
     behind = [0] * len(row)
     for state, goal, above in roads:

@@ -58,6 +58,42 @@ EXAMPLES = {
 >>> [total(many, 3), totals(many, 4), mean(many, 3), recurrence(many), first_total(many), first_unlike_total(ones, many), part_total(ones, "a", 2, 3), last_out(ones)("ab"), counted(ones, "a") == many]
 [(12, 1), [(0, 1), (1, 1), (4, 1), (12, 1)], (3, 2), [(4, 1), (-4, 1)], 1, 0, (3, 1), (2, 1), True]
 ''',
+    "chances": '''
+>>> from textworths.chances import after, evenly, expected, first_seen_at, independent, is_source, mixed, remembers, seen_by, spread
+>>> from textworths.closures import places
+>>> from textworths.tariffs import Tariff
+>>> even = evenly("ab")
+>>> keeps = Tariff("ab", ["", "a"], [[[(0, 1), (1, 1)], [(1, 1), (-1, 1)]], [[(0, 1), (2, 3)], [(1, 3), (-1, 3)]]], [(1, 1), (1, 2)])
+>>> [even("ab"), is_source(keeps), is_source(places("ab", "a")), expected(even, places("ab", "a"), 3), spread(even, places("ab", "a"), 3), seen_by(even, "a", 2), first_seen_at(even, "ab", 3), independent(even), remembers(even, 2), remembers(keeps, 2)]
+[(1, 4), True, False, (3, 2), (3, 4), (3, 4), (1, 4), True, 0, 1]
+>>> [keeps("aa"), after(keeps, "a")("a"), after(keeps, "a")("b"), mixed([even, keeps], [(1, 2), (1, 2)])("aa")]
+[(1, 3), (2, 3), (1, 3), (7, 24)]
+''',
+    "books": '''
+>>> from textworths.books import Book, behind_book, delay, first_common, first_double, is_full, is_one_way, is_plain, measure, sure_beginning, ways
+>>> late, twofold = Book("xyz", ["a", "ab", "bb"], "ab"), Book("xy", ["a", "aa"], "a")
+>>> [late.written("xz"), late.decoded("abb"), is_one_way(late), is_plain(late), delay(late), delay(Book("xy", ["a", "ab"], "ab")), measure(late), is_full(late), sure_beginning(late, "ab"), sure_beginning(late, "aa")]
+['abb', 'xz', True, False, None, 1, (1, 1), True, '', 'x']
+>>> [first_double(twofold), twofold.messages("aaa"), twofold.decoded("aa"), ways(twofold)("aaa"), len(late), first_common(Book("x", ["aab"], "ab"), late), behind_book(Book("u", ["xz"], "xyz"), late).words]
+[('aa', 'y', 'xx'), ['xy', 'yx', 'xxx'], None, (3, 1), 3, 'aab', ['abb']]
+''',
+    "questions": '''
+>>> from textworths.closures import all_alike, lengths
+>>> from textworths.questions import asked, fewest_messages, first_false, fitting, least_size, next_message, told_back
+>>> [asked("ab", 1), next_message("ab", 1, [("", (1, 1))]), told_back("a", 1, [("a", (2, 1)), ("", (1, 1))])("aaaa"), told_back("a", 1, [("", (0, 1)), ("a", (1, 1))]), least_size("a", 1, [("", (0, 1)), ("a", (1, 1)), ("aa", (2, 1))])]
+[['', 'a', 'b'], 'a', (16, 1), None, 2]
+>>> [first_false(lengths("a"), [("a", (1, 1)), ("aa", (3, 1))]), fitting([lengths("a"), all_alike("a", (1, 1))], [("a", (1, 1))]), fewest_messages([lengths("a"), all_alike("a", (1, 1)), all_alike("a", (2, 1))], 2)]
+[('aa', (3, 1)), [0, 1], ['']]
+''',
+    "desks": '''
+>>> from textworths.desks import Desk
+>>> desk = Desk("ab")
+>>> told = [desk.order("pattern as (.* (a .*))"), desk.order("pattern all .*"), desk.order("behind two all all"), desk.order("worth as aba"), desk.order("apart as two"), desk.order("send as aab"), desk.order("branch b"), desk.order("scaled as as 1/2")]
+>>> told
+['done', 'done', 'done', '2', '-', 'done', 'done', 'done']
+>>> [desk.order("send as aab"), desk.order("sum"), desk.order("ledger"), desk.order("switch b"), desk.order("worth as aba"), desk.order("sum"), len(desk), desk.order("undo"), desk.order("total as 3"), desk.names()]
+['done', '3', 'as aab 2 | as aab 1', 'done', '2', '2', 8, 'done', '6', ['all', 'as', 'two']]
+''',
 }
 
 

@@ -49,14 +49,43 @@ INTERFACE = {
         "part_total": ["tariff", "sign", "times", "length"], "counted": ["tariff", "sign"], "last_out": ["tariff"],
         "first_out": ["tariff"],
     },
+    "chances": {
+        "is_source": ["tariff"], "evenly": ["signs"], "after": ["source", "message"],
+        "expected": ["source", "tariff", "length"], "spread": ["source", "tariff", "length"],
+        "seen_by": ["source", "part", "length"], "first_seen_at": ["source", "part", "length"],
+        "independent": ["source"], "remembers": ["source", "most"], "mixed": ["sources", "shares"],
+    },
+    "books": {
+        "Book": ["signs", "words", "letters"], "ways": ["book"], "is_one_way": ["book"], "first_double": ["book"],
+        "is_plain": ["book"], "delay": ["book"], "measure": ["book"], "is_full": ["book"],
+        "sure_beginning": ["book", "text"], "first_common": ["one", "other"], "behind_book": ["one", "other"],
+    },
+    "questions": {
+        "asked": ["signs", "size"], "next_message": ["signs", "size", "answers"],
+        "told_back": ["signs", "size", "answers"], "least_size": ["signs", "half", "answers"],
+        "first_false": ["tariff", "answers"], "fitting": ["tariffs", "answers"],
+        "fewest_messages": ["tariffs", "length"],
+    },
+    "desks": {"Desk": ["signs"]},
 }
 METHODS = {
     ("machines", "Machine"): {"__call__": ["message"], "courses": ["message"], "__len__": [], "__eq__": ["other"]},
     ("tariffs", "Tariff"): {"__call__": ["message"], "__len__": [], "__eq__": ["other"]},
+    ("books", "Book"): {
+        "written": ["message"], "messages": ["text"], "decoded": ["text"], "__len__": [], "__eq__": ["other"],
+    },
+    ("desks", "Desk"): {
+        "forks": [], "names": [], "ledger": [], "__len__": [], "put": ["name", "tariff"], "make": ["name", "deed"],
+        "drop": ["name"], "send": ["name", "message"], "branch": ["name"], "switch": ["name"], "undo": [],
+        "worth": ["name", "message"], "apart": ["name", "other"], "total": ["name", "length"], "form": ["name"],
+        "ledger_sum": [], "same_as": ["name"], "order": ["text"],
+    },
 }
 PROPERTIES = {
     ("machines", "Machine"): ["signs", "begin", "roads", "end"],
     ("tariffs", "Tariff"): ["signs", "heads", "table", "worths"],
+    ("books", "Book"): ["signs", "words", "letters"],
+    ("desks", "Desk"): ["signs", "fork"],
 }
 
 

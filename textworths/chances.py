@@ -1,13 +1,15 @@
 """Chances: sources, tariffs whose worths are the chances of what a sender makes."""
 
-from textworths.closures import all_alike, rest, scaled
+from textworths.closures import rest, scaled
 from textworths.errors import Endless, InvalidNumber, InvalidSource, NoChance
+from textworths.forms import form_of_nothing
 from textworths.joins import beside, crossed, multiplied
 from textworths.numbers import added, check_numbers, number, product, quotient
 from textworths.signs import check_message, check_signs
 from textworths.spaces import Space
 from textworths.sums import ends_with_a_sign, total_by
-from textworths.tariffs import check_like_signs, parts_of, steps_of, tariff_by
+from textworths.steps import steps_by
+from textworths.tariffs import check_like_signs, tariff_by
 
 ONE = (1, 1)
 NONE = (0, 1)
@@ -16,14 +18,14 @@ NONE = (0, 1)
 def is_source(tariff):
     """Tells whether a tariff gives chances: 1 to the empty message, to each one the sum of those behind it."""
     # What all rests have in common, the free ones of the heads have.
-    return tariff("") == ONE and ends_with_a_sign(tariff) == tariff.worths
+    return tariff("") == ONE and ends_with_a_sign(tariff.steps) == tariff.steps.last
 
 
 def evenly(signs):
     """Returns the source of which all messages of a length have the same chance."""
     check_signs(signs)
     roads = [(0, sign, 0, (1, len(signs))) for sign in signs]
-    return tariff_by(signs, ([ONE], roads, [ONE]))
+    return tariff_by(signs, steps_by(signs, [ONE], roads, [ONE]))
 
 
 def after(source, message):
@@ -39,15 +41,15 @@ def after(source, message):
 def expected(source, tariff, length):
     """Returns the sum of the chance times the worth over all messages of a length."""
     _check_asked(source, tariff, length)
-    return total_by(crossed(parts_of(source), parts_of(tariff)), length)
+    return total_by(crossed(source.steps, tariff.steps), length)
 
 
 def spread(source, tariff, length):
     """Returns the expected square of the worth less the square of the expected worth."""
     _check_asked(source, tariff, length)
-    weighed = crossed(parts_of(source), parts_of(tariff))
+    weighed = crossed(source.steps, tariff.steps)
     middle = total_by(weighed, length)
-    square = total_by(crossed(weighed, parts_of(tariff)), length)
+    square = total_by(crossed(weighed, tariff.steps), length)
     return added(square, product(middle, number(-middle[0], middle[1])))
 
 
@@ -77,7 +79,7 @@ def remembers(source, most):
     """Returns how many of the last signs bind what comes behind them, None if more than so many."""
     _check_sources([source])
     _check_count(most)
-    steps = steps_of(source)
+    steps = source.steps
     states = range(steps.size)
     # Of each message with unlike rests ahead of it: the worths at the states from each state on.
     open_ones = [[[1 if at == state else 0 for at in states] for state in states]]
@@ -96,10 +98,10 @@ def mixed(sources, shares):
     check_numbers(shares)
     if len(shares) != len(sources) or _sum(shares) != ONE:
         raise InvalidNumber(list(shares))
-    parts = ([], [], [])
+    steps = form_of_nothing(sources[0].signs).steps
     for source, share in zip(sources, shares):
-        parts = beside(parts, multiplied(parts_of(source), share))
-    return tariff_by(sources[0].signs, parts)
+        steps = beside(steps, multiplied(source.steps, share))
+    return tariff_by(sources[0].signs, steps)
 
 
 def _check_sources(tariffs):
@@ -142,8 +144,8 @@ def _sum(numbers):
 def _seen(source, roads, last, length):
     """Returns the sum of the chances of the messages of a length that lead along roads to the last state."""
     others = [NONE] * last
-    seeing = ([ONE] + others, roads, others + [ONE])
-    return total_by(crossed(parts_of(source), seeing), length)
+    seeing = steps_by(source.signs, [ONE] + others, roads, others + [ONE])
+    return total_by(crossed(source.steps, seeing), length)
 
 
 def _roads_to_part(signs, part):

@@ -1,10 +1,14 @@
 """Closures: tariffs that are made of other ones, of signs and of messages."""
 
 from textworths.errors import Endless, InvalidBook, InvalidNumber, InvalidSigns
-from textworths.joins import beside, crossed, kept_to, multiplied, pairs, shifted
-from textworths.numbers import check_number, product, quotient
+from textworths.forms import Form, form_of_nothing, form_of_reached, form_of_seen
+from textworths.joins import (
+    backwards, beside, by_words, crossed, following, kept_to, multiplied, repeated, shuffling, spelling, undoing,
+)
+from textworths.numbers import check_number
 from textworths.signs import check_message, check_signs
-from textworths.tariffs import check_like_signs, parts_of, steps_of, tariff_by
+from textworths.steps import Steps, steps_by
+from textworths.tariffs import check_like_signs, tariff_by, tariff_by_form
 
 ONE = (1, 1)
 NONE = (0, 1)
@@ -13,115 +17,84 @@ NONE = (0, 1)
 def plus(one, other):
     """Returns the tariff that gives the sum of the worths."""
     check_like_signs([one, other])
-    return tariff_by(one.signs, beside(parts_of(one), parts_of(other)))
+    return tariff_by(one.signs, beside(one.steps, other.steps))
 
 
 def scaled(one, number):
     """Returns the tariff that gives a number times the worth."""
     check_number(number)
-    return tariff_by(one.signs, multiplied(parts_of(one), number))
+    if number == NONE:
+        return tariff_by_form(one.signs, form_of_nothing(one.signs))
+    return tariff_by_form(one.signs, Form(one.heads, multiplied(one.steps, number)))
 
 
 def each(one, other):
     """Returns the tariff that gives the product of the worths."""
     check_like_signs([one, other])
-    return tariff_by(one.signs, crossed(parts_of(one), parts_of(other)))
+    return tariff_by(one.signs, crossed(one.steps, other.steps))
 
 
 def behind(one, other):
     """Returns the tariff that adds up, over all cuts in two parts, the products of their worths."""
     check_like_signs([one, other])
-    begin, roads, end = parts_of(one)
-    begin_2, roads_2, end_2 = parts_of(other)
-    size = len(begin)
-    # What ends in the one begins in the other one: with the sign that ends it, or at once.
-    bridges = [(state, sign, size + at, product(product(entry, end[goal]), first))
-               for state, sign, goal, entry in roads for at, first in enumerate(begin_2)
-               if end[goal] != NONE and first != NONE]
-    entered = [product(one(""), first) for first in begin_2]
-    return tariff_by(one.signs, (begin + entered, roads + bridges + shifted(roads_2, size), [NONE] * size + end_2))
+    return tariff_by(one.signs, following(one.steps, other.steps))
 
 
 def again(one):
     """Returns the tariff that adds up, over all cuts in parts, the products of their worths."""
     if one("") != NONE:
         raise Endless(one)
-    begin, roads, end = parts_of(one)
-    # One state more stands between the parts: there a message begins, and ends.
-    gate = len(begin)
-    starts = [(gate, sign, goal, product(begin[state], entry)) for state, sign, goal, entry in roads]
-    inner = roads + [road for road in starts if road[3] != NONE]
-    closing = [(state, sign, gate, product(entry, end[goal])) for state, sign, goal, entry in inner]
-    return tariff_by(one.signs, ([NONE] * gate + [ONE], inner + closing, [NONE] * gate + [ONE]))
+    return tariff_by(one.signs, repeated(one.steps))
 
 
 def undone(one, other):
     """Returns the tariff that, put ahead of the other one, makes the one."""
     check_like_signs([one, other])
-    first = other("")
-    if first == NONE:
+    if other("") == NONE:
         raise Endless(other)
-    begin, roads, end = parts_of(one)
-    begin_2, roads_2, end_2 = parts_of(other)
-    size = len(begin)
-    # The worth is what the one gives, less all that shorter beginnings and a part of the
-    # other one make up already, by the worth that the other one gives to the empty message.
-    ends = [quotient(entry, first) for entry in end + multiplied(([], [], end_2), (-1, 1))[2]]
-    entering = [(sign, size + goal, product(begin_2[state], entry)) for state, sign, goal, entry in roads_2]
-    bridges = [(state, sign, goal, product(last, entry)) for state, last in enumerate(ends)
-               for sign, goal, entry in entering if last != NONE and entry != NONE]
-    return tariff_by(one.signs, (begin + [NONE] * len(begin_2), roads + shifted(roads_2, size) + bridges, ends))
+    return tariff_by(one.signs, undoing(one.steps, other.steps))
 
 
 def shuffled(one, other):
     """Returns the tariff that adds up, over all choices of places, the products of the worths."""
     check_like_signs([one, other])
-    begin, roads, end = parts_of(one)
-    begin_2, roads_2, end_2 = parts_of(other)
-    size, size_2 = len(begin), len(begin_2)
-    moves = [(state * size_2 + at, sign, goal * size_2 + at, entry)
-             for state, sign, goal, entry in roads for at in range(size_2)]
-    moves_2 = [(at * size_2 + state, sign, at * size_2 + goal, entry)
-               for state, sign, goal, entry in roads_2 for at in range(size)]
-    return tariff_by(one.signs, (pairs(begin, begin_2), moves + moves_2, pairs(end, end_2)))
+    return tariff_by(one.signs, shuffling(one.steps, other.steps))
 
 
 def within(one):
     """Returns the tariff that adds up the worths of all parts of a message."""
-    ones = all_alike(one.signs, ONE)
-    return behind(behind(ones, one), ones)
+    ones = all_alike(one.signs, ONE).steps
+    return tariff_by(one.signs, following(following(ones, one.steps), ones))
 
 
 def turned(one):
     """Returns the tariff that gives the worth of the message read from its end."""
-    begin, roads, end = parts_of(one)
-    return tariff_by(one.signs, (end, [(goal, sign, state, entry) for state, sign, goal, entry in roads], begin))
+    # What messages reach from the begin tells the states apart if they are read from the end.
+    return tariff_by_form(one.signs, form_of_seen(one.signs, backwards(one.steps)))
 
 
 def rest(one, message):
     """Returns the tariff that gives each message the worth of it behind this one."""
     check_message(one.signs, message)
-    _, roads, end = parts_of(one)
-    return tariff_by(one.signs, (steps_of(one).numbers_behind(message), roads, end))
+    steps = one.steps
+    below, row = steps.first
+    return tariff_by_form(one.signs, form_of_seen(
+        one.signs, Steps(steps.moved(below, row, message), steps.last, steps.of_sign)))
 
 
 def before(one, message):
     """Returns the tariff that gives each message the worth of it ahead of this one."""
     check_message(one.signs, message)
-    begin, roads, _ = parts_of(one)
-    steps = steps_of(one)
-    return tariff_by(one.signs, (begin, roads, [steps.worth_from(state, message) for state in range(len(one))]))
+    steps = one.steps
+    ends = Steps(steps.first, steps.ends_ahead_of(message), steps.of_sign)
+    return tariff_by_form(one.signs, form_of_reached(one.signs, Form(one.heads, ends)))
 
 
 def led(one, signs, words):
     """Returns the tariff over signs that gives the worth with a word in place of each sign."""
     check_signs(signs)
     _check_words(one.signs, words, len(signs))
-    begin, _, end = parts_of(one)
-    steps = steps_of(one)
-    roads = [(state, sign, goal, entry) for sign, word in zip(signs, words) for state in range(len(one))
-             for goal, entry in enumerate(steps.numbers_from(state, word)) if entry != NONE]
-    return tariff_by(signs, (begin, roads, end))
+    return tariff_by(signs, by_words(one.steps, signs, words))
 
 
 def spelled(one, signs, words):
@@ -130,20 +103,7 @@ def spelled(one, signs, words):
     _check_words(signs, words, len(one.signs))
     if "" in words:
         raise Endless(list(words))
-    begin, roads, end = parts_of(one)
-    size = len(begin)
-    # For each beginning of a word there are states of their own, which wait for its end.
-    nodes = {"": 0}
-    for word in words:
-        for cut in range(1, len(word)):
-            nodes.setdefault(word[:cut], len(nodes) * size)
-    moves = [(nodes[begun[:-1]] + state, begun[-1], first + state, ONE)
-             for begun, first in nodes.items() if begun != "" for state in range(size)]
-    word_of = {sign: word for sign, word in zip(one.signs, words)}
-    closing = [(nodes[word_of[sign][:-1]] + state, word_of[sign][-1], goal, entry)
-               for state, sign, goal, entry in roads]
-    waiting = [NONE] * (size * len(nodes) - size)
-    return tariff_by(signs, (begin + waiting, moves + closing, end + waiting))
+    return tariff_by(signs, spelling(one.steps, signs, words))
 
 
 def only(one, signs):
@@ -152,29 +112,32 @@ def only(one, signs):
     for sign in signs:
         if sign not in one.signs:
             raise InvalidSigns(signs)
-    return tariff_by(one.signs, kept_to(parts_of(one), signs))
+    return tariff_by(one.signs, kept_to(one.steps, signs))
 
 
 def all_alike(signs, number):
     """Returns the tariff that gives a number to each message."""
     check_number(number)
     check_signs(signs)
-    return tariff_by(signs, ([number], _round(signs, 0), [ONE]))
+    return tariff_by(signs, steps_by(signs, [number], _round(signs, 0), [ONE]))
 
 
 def just(signs, message):
     """Returns the tariff that gives 1 to a message, 0 to all others."""
     check_signs(signs)
     check_message(signs, message)
+    heads = [message[:cut] for cut in range(len(message) + 1)]
+    # No two rests behind beginnings of the message are alike, and all others are 0.
     others = [NONE] * len(message)
-    return tariff_by(signs, ([ONE] + others, _line(message), others + [ONE]))
+    return tariff_by_form(signs, Form(heads, steps_by(signs, [ONE] + others, _line(message), others + [ONE])))
 
 
 def lengths(signs):
     """Returns the tariff that gives the length."""
     check_signs(signs)
     steps = [(0, sign, 1, ONE) for sign in signs]
-    return tariff_by(signs, ([ONE, NONE], _round(signs, 0) + steps + _round(signs, 1), [NONE, ONE]))
+    roads = _round(signs, 0) + steps + _round(signs, 1)
+    return tariff_by(signs, steps_by(signs, [ONE, NONE], roads, [NONE, ONE]))
 
 
 def places(signs, part):
@@ -185,22 +148,21 @@ def places(signs, part):
         raise Endless(part)
     last = len(part)
     roads = _round(signs, 0) + _line(part) + _round(signs, last)
-    return tariff_by(signs, ([ONE] + [NONE] * last, roads, [NONE] * last + [ONE]))
+    return tariff_by(signs, steps_by(signs, [ONE] + [NONE] * last, roads, [NONE] * last + [ONE]))
 
 
 def powers(one, times):
     """Returns the tariff of so many times one, put behind each other."""
     if times < 0:
         raise InvalidNumber(times)
-    made = just(one.signs, "")
-    doubled = one
+    made, doubled = None, one
     while times > 0:
         if times & 1 == 1:
-            made = behind(made, doubled)
+            made = doubled if made is None else behind(made, doubled)
         times = times >> 1
         if times > 0:
             doubled = behind(doubled, doubled)
-    return made
+    return just(one.signs, "") if made is None else made
 
 
 def _check_words(signs, words, many):

@@ -1,80 +1,63 @@
-"""Forms: the heads, the table and the worths that tell a tariff."""
+"""Forms: the heads of a tariff, and the steps from each to the next."""
 
-from textworths.numbers import is_pair
-from textworths.spaces import Free, PrimeSpace, Space
+from math import gcd
+
+from textworths.free import Free
+from textworths.numbers import content_of, is_pair, number, shortened
+from textworths.steps import Steps, lcm_of, led_on
+from textworths.views import is_seen_apart, parting_views, seen, views, whole_views
+
+# Machines with more states, or with longer numbers, are asked first what messages see of them.
+MOST_STATES = 40
+MOST_BITS = 200
 
 
-def views(steps):
-    """Returns rows over the states that tell apart all that some message tells apart.
+class Form:
+    """The form of a tariff: its heads in `firsts`, its table and its worths in `steps`.
 
-    Worths at the states give 0 to all messages exactly if they add up to 0 along each view.
+    There is a state for each head, at which a message begins with 1 if it is the first one. The
+    whole numbers are as short as they can be, so two tariffs are alike if these are.
     """
-    size = steps.size
-    quick = PrimeSpace()
-    _fill(quick, steps)
-    if len(quick) == size:
-        return [{state: 1} for state in range(size)]
-    # At least so many views are free: rows as many are all of them if nothing leads out of them.
-    guessed = Space()
-    for row in quick.guesses():
-        guessed.take(row)
-    if _is_closed(guessed, steps):
-        return guessed.rows()
-    space = Space()
-    _fill(space, steps)
-    return space.rows()
+
+    def __init__(self, firsts, steps):
+        self.firsts = firsts
+        self.steps = steps
 
 
 def form_of(signs, steps):
-    """Returns (heads, table, worths) of the tariff with some steps."""
-    seen_by = views(steps)
-    free = Free(len(seen_by))
-    heads, worths, told = [], [], {}
-    below, row = steps.first
-    waiting = [("", below, row)]
-    at = 0
-    while at < len(waiting):
-        message, below, row = waiting[at]
-        numbers = free.told(below, seen(row, seen_by))
-        if numbers is None:
-            heads.append(message)
-            worths.append(steps.worth_at(below, row))
-            # Only what is behind a head can be a head: so those that wait stay in their order.
-            waiting.extend([_waiting_behind(steps, message, below, row, sign) for sign in signs])
-        else:
-            told[message] = numbers
-        at += 1
-    return heads, table_of(signs, heads, told), worths
+    """Returns the form of the tariff with some steps."""
+    bits = sum([below.bit_length() for below, _ in list(steps.of_sign.values())])
+    if steps.size > MOST_STATES or bits > MOST_BITS:
+        return _form_by(signs, steps, parting_views(steps))
+    return form_of_reached(signs, form_of_seen(signs, steps))
 
 
-def table_of(signs, heads, told):
-    """Returns the table of heads, and of the numbers that tell the rests behind other messages by them."""
-    return [[_told_by_all(heads, told, head + sign) for sign in signs] for head in heads]
+def form_of_seen(signs, steps):
+    """Returns the form of the tariff with some steps if messages tell all their states apart."""
+    return _form_by(signs, steps, None)
 
 
-def seen(row, seen_by):
-    """Returns the row of what views see of whole numbers at the states."""
-    sums = [sum([entry * row[state] for state, entry in view.items()]) for view in seen_by]
-    return {at: entry for at, entry in enumerate(sums) if entry != 0}
+def form_of_reached(signs, form):
+    """Returns the form of a tariff from one with a state for each message that reaches another one."""
+    if is_seen_apart(form.steps):
+        return form
+    return _form_by(signs, form.steps, whole_views(form.steps))
 
 
-def first_told(signs, steps):
-    """Returns the first message whose worth is not 0, None if there is none."""
-    space = Space()
-    waiting = [("", steps.first[1])]
-    at = 0
-    while at < len(waiting):
-        message, row = waiting[at]
-        left = space.left_of({state: above for state, above in enumerate(row) if above != 0})
-        # What was taken off has the worth 0, so what is left tells whether this one has.
-        whole = [left.get(state, 0) for state in range(steps.size)]
-        if steps.worth_at(1, whole) != (0, 1):
-            return message
-        if left != {}:
-            space.take(left)
-            waiting.extend([(message + sign, steps.moved(1, whole, sign)[1]) for sign in signs])
-        at += 1
-    return None
+def form_of_nothing(signs):
+    """Returns the form of the tariff that gives 0 to all messages."""
+    return Form([], Steps((1, []), (1, []), {sign: (1, []) for sign in signs}))
+
+
+def table_of(signs, steps):
+    """Returns the table of a form with some steps."""
+    return [[_numbers_of(steps.of_sign[sign], state) for sign in signs] for state in range(steps.size)]
+
+
+def worths_of(steps):
+    """Returns the worths of the heads of a form with some steps."""
+    below, aboves = steps.last
+    return [number(above, below) for above in aboves]
 
 
 def parts_of_form(signs, table, worths):
@@ -109,65 +92,104 @@ def is_form(signs, heads, table, steps):
     return len(views(steps)) == len(heads)
 
 
-def _fill(space, steps):
-    """Fills a space with the views of all messages."""
-    roads_to = _roads_to(steps)
-    waiting = [_last_view(steps)]
+def _form_by(signs, steps, seen_by):
+    """Returns the form of the tariff with some steps, by what views see of the states, None for all."""
+    free = Free(steps.size if seen_by is None else len(seen_by))
+    heads, kept, told = [], [], {}
+    below, row = steps.first
+    waiting = [("", 0, "")]
     at = 0
-    while at < len(waiting) and len(space) < steps.size:
-        left = space.left_of(waiting[at])
-        if left != {}:
-            space.take(left)
-            waiting.extend([_led_back(left, roads) for roads in roads_to])
+    while at < len(waiting):
+        message, head, sign = waiting[at]
+        reached = _moved(kept[head], steps.of_sign[sign]) if at > 0 else _shortest(1, below, row)
+        numbers = free.told(reached[2] if seen_by is None else seen(reached[2], seen_by))
+        if numbers is None:
+            # Only what is behind a head can be a head: so those that wait stay in their order.
+            waiting.extend([(message + more, len(heads), more) for more in signs])
+            heads.append(message)
+            kept.append(reached)
+        else:
+            told[message] = (reached, numbers)
         at += 1
+    first = (1, [1 if head == "" else 0 for head in heads])
+    return Form(heads, Steps(first, _lasts(kept, steps.last), _roads_of(signs, heads, kept, told)))
 
 
-def _is_closed(space, steps):
-    """Tells whether the views of all messages are in a space."""
-    roads_to = _roads_to(steps)
-    inner = [_led_back(row, roads) for row in space.rows() for roads in roads_to]
-    return all([space.left_of(view) == {} for view in [_last_view(steps)] + inner])
+def _moved(reached, told):
+    """Returns the worths at the states behind one sign more."""
+    above, below, row = reached
+    factor, roads = told
+    return _shortest(above, below * factor, led_on(row, roads))
 
 
-def _last_view(steps):
-    """Returns the view of the empty message."""
-    return {state: above for state, above in enumerate(steps.last[1]) if above != 0}
+def _shortest(above, below, row):
+    """Returns (above, below, row): above by below times whole numbers with no common divisor."""
+    common = content_of(row)
+    if common > 1:
+        row = [entry // common for entry in row]
+        above = above * common
+    if below > 1:
+        common = gcd(above, below)
+        above, below = above // common, below // common
+    return above, below, row
 
 
-def _roads_to(steps):
-    """Returns, for each sign, the roads by the states to which they lead."""
-    return [_roads_by_goal(roads) for _, roads in list(steps.of_sign.values())]
+def _lasts(kept, last):
+    """Returns the worths of heads as (below, aboves)."""
+    factor, ends = last
+    common = lcm_of([below for _, below, _ in kept])
+    aboves = [above * (common // below) * sum([entry * end for entry, end in zip(row, ends)])
+              for above, below, row in kept]
+    return shortened(common * factor, aboves)
 
 
-def _roads_by_goal(roads):
-    """Returns the roads to each state, as tuples (state, above)."""
-    found = {}
-    for state, goal, above in roads:
-        found.setdefault(goal, []).append((state, above))
-    return found
+def _roads_of(signs, heads, kept, told):
+    """Returns the roads of each sign between heads, by the numbers that tell the messages behind them."""
+    # Free rows are told but for a factor each, which comes in here.
+    common = lcm_of([above for above, _, _ in kept])
+    factors = [below * (common // above) for above, below, _ in kept]
+    place = {head: at for at, head in enumerate(heads)}
+    of_sign = {}
+    for sign in signs:
+        rows = []
+        for head in heads:
+            message = head + sign
+            if message in told:
+                rows.append(_told_row(told[message], common, factors))
+            else:
+                rows.append((1, [(place[message], 1)]))
+        below = lcm_of([row[0] for row in rows])
+        of_sign[sign] = (below, [_times(roads, below // factor) for factor, roads in rows])
+    return of_sign
 
 
-def _led_back(view, roads_to):
-    """Returns what a view sees from ahead of a sign."""
-    ahead = {}
-    for goal, entry in view.items():
-        for state, above in roads_to.get(goal, []):
-            ahead[state] = ahead.get(state, 0) + above * entry
-    return {state: entry for state, entry in ahead.items() if entry != 0}
+def _told_row(told, common, factors):
+    """Returns (below, roads) of a row from the numbers that tell it."""
+    reached, numbers = told
+    above, below, _ = reached
+    factor, aboves = numbers
+    below = below * factor * common
+    if below < 0:
+        above, below = -above, -below
+    if above == 1 and below == 1:
+        entries = [entry * weight for entry, weight in zip(aboves, factors)]
+    else:
+        below, entries = shortened(below, [above * entry * weight for entry, weight in zip(aboves, factors)])
+    return below, [(goal, entry) for goal, entry in enumerate(entries) if entry != 0]
 
 
-def _waiting_behind(steps, message, below, row, sign):
-    """Returns (message, below, row) of a message with one sign more."""
-    below, row = steps.moved(below, row, sign)
-    return message + sign, below, row
+def _times(roads, factor):
+    """Returns so many times the roads of a state."""
+    return roads if factor == 1 else [(goal, above * factor) for goal, above in roads]
 
 
-def _told_by_all(heads, told, message):
-    """Returns the numbers, one for each head, that tell the rest behind a message."""
-    if message in told:
-        numbers = told[message]
-        return numbers + [(0, 1)] * (len(heads) - len(numbers))
-    return [(1, 1) if head == message else (0, 1) for head in heads]
+def _numbers_of(told, state):
+    """Returns the row of the numbers of the roads of a state."""
+    below, roads = told
+    row = [(0, 1) for _ in roads]
+    for goal, above in roads[state]:
+        row[goal] = (above, 1) if below == 1 else number(above, below)
+    return row
 
 
 def _are_rows(rows, count, many):

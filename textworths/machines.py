@@ -3,7 +3,7 @@
 from textworths.errors import InvalidMachine
 from textworths.numbers import check_numbers, product
 from textworths.signs import check_message, check_sign, check_signs
-from textworths.steps import Steps
+from textworths.steps import steps_by
 
 
 class Machine:
@@ -22,7 +22,7 @@ class Machine:
         self._begin = list(begin)
         self._roads = list(roads)
         self._end = list(end)
-        self._steps = Steps(signs, begin, roads, end)
+        self.steps = steps_by(signs, begin, roads, end)
 
     @property
     def signs(self):
@@ -47,7 +47,7 @@ class Machine:
     def __call__(self, message):
         """Returns the worth of a message, the sum of those of its courses."""
         check_message(self._signs, message)
-        return self._steps.worth(message)
+        return self.steps.worth(message)
 
     def courses(self, message):
         """Returns the ascending list of the courses (states, worth) of a message."""

@@ -94,3 +94,13 @@ def shortened(below, aboves):
         if common == 1:
             return below, aboves
     return below // common, [above // common for above in aboves]
+
+
+def content_of(integers):
+    """Returns the greatest integer that divides all of some integers, 0 if these all are 0."""
+    common = 0
+    for integer in integers:
+        common = gcd(common, integer)
+        if common == 1:
+            return 1
+    return common

@@ -6,14 +6,14 @@ from textworths.joins import beside, crossed, kept_to, multiplied
 from textworths.numbers import added, check_number, product
 from textworths.positions import Positions
 from textworths.signs import check_message, check_sign, check_signs
-from textworths.steps import Steps
-from textworths.tariffs import first_worth_by, parts_of, tariff_by
+from textworths.steps import steps_by
+from textworths.tariffs import first_worth_by, tariff_by
 
 
 def ways(signs, pattern):
     """Returns the tariff of the ways in which a pattern fits."""
     _check(signs, [pattern])
-    return tariff_by(signs, Positions(signs, pattern).parts())
+    return tariff_by(signs, _steps(signs, pattern))
 
 
 def readings(signs, pattern, message):
@@ -21,8 +21,7 @@ def readings(signs, pattern, message):
     _check(signs, [pattern])
     check_message(signs, message)
     _check_unweighed([pattern])
-    begin, roads, end = Positions(signs, pattern).parts()
-    return Steps(signs, begin, roads, end).worth(message)[0]
+    return _steps(signs, pattern).worth(message)[0]
 
 
 def is_single(signs, pattern):
@@ -32,11 +31,10 @@ def is_single(signs, pattern):
 
 def first_double(signs, pattern):
     """Returns the first message with more than one way, None if there is none."""
-    tariff = ways(signs, pattern)
+    steps = ways(signs, pattern).steps
     _check_unweighed([pattern])
     # Ways are integers from 0 on: just those above 1 are not their own squares.
-    parts = parts_of(tariff)
-    return first_worth_by(signs, beside(crossed(parts, parts), multiplied(parts, (-1, 1))))
+    return first_worth_by(signs, beside(crossed(steps, steps), multiplied(steps, (-1, 1))))
 
 
 def same_ways(signs, one, other):
@@ -61,13 +59,19 @@ def without(signs, pattern, sign):
     _check(signs, [pattern])
     check_sign(signs, sign)
     others = signs.replace(sign, "")
-    return tariff_by(signs, kept_to(Positions(signs, pattern).parts(), others))
+    return tariff_by(signs, kept_to(_steps(signs, pattern), others))
 
 
 def least_fit(signs, pattern):
     """Returns the first message that a pattern fits, None if there is none."""
     _check(signs, [pattern])
-    return first_worth_by(signs, Positions(signs, pattern).parts())
+    return first_worth_by(signs, _steps(signs, pattern))
+
+
+def _steps(signs, pattern):
+    """Returns the steps of the machine that gives the ways of a pattern."""
+    begin, roads, end = Positions(signs, pattern).parts()
+    return steps_by(signs, begin, roads, end)
 
 
 def _check(signs, patterns):

@@ -3,10 +3,11 @@
 from itertools import combinations
 
 from textworths.errors import InvalidNote, InvalidNumber
-from textworths.forms import parts_of_form, table_of
-from textworths.numbers import common_below, is_number
+from textworths.forms import parts_of_form
+from textworths.free import Free
+from textworths.numbers import common_below, is_number, number
 from textworths.signs import check_signs, messages_to
-from textworths.spaces import Free
+from textworths.steps import steps_by
 from textworths.tariffs import check_like_signs, tariff_by
 
 
@@ -31,18 +32,20 @@ def told_back(signs, size, answers):
     # Rests of a tariff of this size are parted by messages shorter than it.
     columns = messages_to(signs, size - 1)
     free = Free(len(columns))
+    whole = _whole(worths)
     heads, told = [], {}
     for message in messages_to(signs, size):
         if message == "" or message[:-1] in heads:
-            numbers = _told_by_free(free, worths, message, columns)
-            if numbers is None:
+            found = free.told([whole[message + column] for column in columns])
+            if found is None:
                 heads.append(message)
             else:
-                told[message] = numbers
+                told[message] = found
     if len(heads) > size or any([len(head) == size for head in heads]):
         return None
-    parts = parts_of_form(signs, table_of(signs, heads, told), [worths[head] for head in heads])
-    tariff = tariff_by(signs, parts)
+    table = [[_row(heads, told, head + sign) for sign in signs] for head in heads]
+    begin, roads, end = parts_of_form(signs, table, [worths[head] for head in heads])
+    tariff = tariff_by(signs, steps_by(signs, begin, roads, end))
     return tariff if all([tariff(message) == worths[message] for message in wanted]) else None
 
 
@@ -54,7 +57,8 @@ def least_size(signs, half, answers):
     _check_wanted(messages_to(signs, 2 * half), worths)
     columns = messages_to(signs, half)
     free = Free(len(columns))
-    return len([row for row in columns if _told_by_free(free, worths, row, columns) is None])
+    whole = _whole(worths)
+    return len([row for row in columns if free.told([whole[row + column] for column in columns]) is None])
 
 
 def first_false(tariff, answers):
@@ -95,10 +99,10 @@ def _told(signs, answers):
     """Returns the numbers by the messages that have them; raises an error for the first wrong answer."""
     found = {}
     for answer in answers:
-        message, number = answer
-        if message in found or not is_number(number) or not all([sign in signs for sign in message]):
+        message, worth = answer
+        if message in found or not is_number(worth) or not all([sign in signs for sign in message]):
             raise InvalidNote(answer)
-        found[message] = number
+        found[message] = worth
     return found
 
 
@@ -117,10 +121,18 @@ def _check_wanted(wanted, worths):
         raise InvalidNote(missing)
 
 
-def _told_by_free(free, worths, message, columns):
-    """Returns the numbers that tell the row of a message by the free ones, None if it is free."""
-    below, aboves = common_below([worths[message + column] for column in columns])
-    return free.told(below, {at: above for at, above in enumerate(aboves) if above != 0})
+def _whole(worths):
+    """Returns whole numbers in the place of numbers, all so many times as great."""
+    _, aboves = common_below(list(worths.values()))
+    return {message: above for message, above in zip(list(worths), aboves)}
+
+
+def _row(heads, told, message):
+    """Returns the numbers, one for each head, that tell the rest behind a message."""
+    if message not in told:
+        return [(1, 1) if head == message else (0, 1) for head in heads]
+    below, aboves = told[message]
+    return [number(above, below) for above in aboves] + [(0, 1)] * (len(heads) - len(aboves))
 
 
 def _first_unlike(tariff, answers):

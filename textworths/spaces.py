@@ -1,4 +1,4 @@
-"""Spaces: all sums of multiples of some rows, and rows that are free of each other.
+"""Spaces: all sums of multiples of some rows.
 
 A row is a dict from columns, integers from 0 on, to whole numbers that are not 0.
 """
@@ -101,32 +101,6 @@ class PrimeSpace:
                 rests = {column: entry % PRIME for column, entry in cleared.items()}
                 self._kept[other] = {column: entry for column, entry in rests.items() if entry != 0}
         self._kept[lead] = begun
-
-
-class Free:
-    """Rows that are free of each other, none of them a sum of multiples of others."""
-
-    def __init__(self, width):
-        self._width = width
-        self._space = Space()
-        self._many = 0
-
-    def told(self, below, row):
-        """Returns the numbers, one for each free row, with which they add up to row by below.
-
-        Where there are none, it returns None, and this one is the next of the free rows.
-        """
-        # Behind all others, a column of its own tells how often each row went into what is left.
-        own = self._width + self._many
-        marked = dict(row)
-        marked[own] = below
-        left = self._space.left_of(marked)
-        if min(list(left)) < self._width:
-            self._space.take(left)
-            self._many += 1
-            return None
-        columns = range(self._width, own)
-        return [number(-left.get(column, 0), left[own]) for column in columns]
 
 
 def _least_number(entry):

@@ -2,11 +2,12 @@
 
 from textworths.closures import each, places
 from textworths.errors import InvalidNumber, UnlikeSigns
-from textworths.joins import along, beside, multiplied
-from textworths.numbers import added, power, product, quotient
+from textworths.forms import Form, form_of_reached, form_of_seen
+from textworths.joins import along, beside, kept_to, multiplied
+from textworths.numbers import power, product, quotient
 from textworths.signs import check_sign
 from textworths.steps import Steps, led_on
-from textworths.tariffs import first_worth_by, parts_of, tariff_by
+from textworths.tariffs import first_worth_by, tariff_by, tariff_by_form
 
 NONE = (0, 1)
 
@@ -14,13 +15,13 @@ NONE = (0, 1)
 def total(tariff, length):
     """Returns the sum of the worths of all messages of a length."""
     _check_counts([length])
-    return total_by(parts_of(tariff), length)
+    return total_by(tariff.steps, length)
 
 
 def totals(tariff, many):
     """Returns the totals of so many lengths from 0 on."""
     _check_counts([many])
-    steps = _steps_along(parts_of(tariff))
+    steps = along(tariff.steps)
     found = []
     below, row = steps.first
     for _ in range(many):
@@ -38,20 +39,20 @@ def mean(tariff, length):
 def recurrence(tariff):
     """Returns the shortest list of numbers by which each total follows from those ahead of it."""
     # Of one sign alone, the last row tells the first length that is no head by the heads.
-    table = tariff_by("a", along(parts_of(tariff))).table
+    table = tariff_by("a", along(tariff.steps)).table
     return [] if table == [] else table[-1][0][::-1]
 
 
 def first_total(tariff):
     """Returns the first length whose total is not 0, None if there is none."""
-    return _first_length(along(parts_of(tariff)))
+    return _first_length(along(tariff.steps))
 
 
 def first_unlike_total(one, other):
     """Returns the first length of which two tariffs have unlike totals, None if there is none."""
     if len(one.signs) != len(other.signs):
         raise UnlikeSigns(other.signs)
-    return _first_length(beside(along(parts_of(one)), multiplied(along(parts_of(other)), (-1, 1))))
+    return _first_length(beside(along(one.steps), multiplied(along(other.steps), (-1, 1))))
 
 
 def part_total(tariff, sign, times, length):
@@ -60,17 +61,16 @@ def part_total(tariff, sign, times, length):
     check_sign(tariff.signs, sign)
     if times > length:
         return NONE
-    begin, roads, end = parts_of(tariff)
-    parted = [(state, "a" if of_road == sign else "b", goal, entry) for state, of_road, goal, entry in roads]
-    steps = Steps("ab", begin, parted, end)
+    steps = tariff.steps
+    factor, roads = steps.of_sign[sign]
+    factor_2, roads_2 = along(kept_to(steps, tariff.signs.replace(sign, ""))).of_sign["a"]
     below, row = steps.first
     # Worths behind as many signs of both kinds are over the same integer below: they just add up.
     rows = [row]
     for _ in range(length):
-        rows = _with_a_sign_more(steps, rows, times)
-    factor = power((steps.of_sign["a"][0], 1), times)
-    factor_2 = power((steps.of_sign["b"][0], 1), length - times)
-    return steps.worth_at(below * factor[0] * factor_2[0], rows[times])
+        rows = _with_a_sign_more(rows, roads, roads_2)[:times + 1]
+    belows = product(power((factor, 1), times), power((factor_2, 1), length - times))
+    return steps.worth_at(below * belows[0], rows[times])
 
 
 def counted(tariff, sign):
@@ -81,31 +81,27 @@ def counted(tariff, sign):
 
 def last_out(tariff):
     """Returns the tariff that adds up the worths of the message with each sign behind it."""
-    begin, roads, _ = parts_of(tariff)
-    return tariff_by(tariff.signs, (begin, roads, ends_with_a_sign(tariff)))
+    steps = tariff.steps
+    ends = Steps(steps.first, ends_with_a_sign(steps), steps.of_sign)
+    return tariff_by_form(tariff.signs, form_of_reached(tariff.signs, Form(tariff.heads, ends)))
 
 
 def first_out(tariff):
     """Returns the tariff that adds up the worths of the message with each sign ahead of it."""
-    begin, roads, end = parts_of(tariff)
-    begins = [NONE] * len(begin)
-    for state, _, goal, entry in roads:
-        begins[goal] = added(begins[goal], product(begin[state], entry))
-    return tariff_by(tariff.signs, (begins, roads, end))
+    steps = tariff.steps
+    below, row = steps.first
+    begins = Steps(along(steps).moved(below, row, "a"), steps.last, steps.of_sign)
+    return tariff_by_form(tariff.signs, form_of_seen(tariff.signs, begins))
 
 
-def total_by(parts, length):
+def total_by(steps, length):
     """Returns the sum of the worths that a machine gives to all messages of a length."""
-    return _steps_along(parts).worth("a" * length)
+    return along(steps).worth("a" * length)
 
 
-def ends_with_a_sign(tariff):
-    """Returns, for each head, the sum of the worths of it with each sign behind it."""
-    _, roads, end = parts_of(tariff)
-    ends = [NONE] * len(end)
-    for state, _, goal, entry in roads:
-        ends[state] = added(ends[state], product(entry, end[goal]))
-    return ends
+def ends_with_a_sign(steps):
+    """Returns what the states add up to in the end with each sign ahead of that, as (below, aboves)."""
+    return along(steps).ends_ahead_of("a")
 
 
 def _check_counts(counts):
@@ -115,22 +111,15 @@ def _check_counts(counts):
             raise InvalidNumber(count)
 
 
-def _steps_along(parts):
-    """Returns the steps from each length to the next."""
-    begin, roads, end = along(parts)
-    return Steps("a", begin, roads, end)
-
-
-def _first_length(parts):
+def _first_length(steps):
     """Returns the first length to which a machine of one sign gives a worth that is not 0."""
-    first = first_worth_by("a", parts)
+    first = first_worth_by("a", steps)
     return None if first is None else len(first)
 
 
-def _with_a_sign_more(steps, rows, most):
-    """Returns the worths at the states, by how often the first kind of sign stands, at most so often."""
-    size = steps.size
-    stays = [led_on(row, steps.of_sign["b"][1]) for row in rows] + [[0] * size]
-    goes = [[0] * size] + [led_on(row, steps.of_sign["a"][1]) for row in rows]
-    more = [[stay + go for stay, go in zip(row, row_2)] for row, row_2 in zip(stays, goes)]
-    return more[:most + 1]
+def _with_a_sign_more(rows, roads, roads_2):
+    """Returns the worths at the states, by how often the first kind of sign stands."""
+    nothing = [0] * len(roads)
+    goes = [nothing] + [led_on(row, roads) for row in rows]
+    stays = [led_on(row, roads_2) for row in rows] + [nothing]
+    return [[stay + go for stay, go in zip(row, row_2)] for row, row_2 in zip(stays, goes)]

@@ -1,33 +1,26 @@
 """Tariffs: the worths of all messages, told by their least form."""
 
 from textworths.errors import InvalidMachine, UnlikeSigns
-from textworths.forms import first_told, form_of, has_shape, is_form, parts_of_form, views
+from textworths.forms import Form, form_of, has_shape, is_form, parts_of_form, table_of, worths_of
+from textworths.free import Free
 from textworths.joins import beside, multiplied
 from textworths.machines import Machine
-from textworths.numbers import check_numbers_within
+from textworths.numbers import check_numbers_within, number
 from textworths.signs import check_message, check_signs
-from textworths.spaces import Free
-from textworths.steps import Steps
+from textworths.spaces import Space
+from textworths.steps import steps_by
+from textworths.views import views
 
 
 class Tariff:
     """A tariff by its form, which never changes; called with a message, it gives its worth."""
 
     def __init__(self, signs, heads, table, worths):
-        check_signs(signs)
-        check_numbers_within(table)
-        check_numbers_within(worths)
-        if not has_shape(signs, heads, table, worths):
-            raise InvalidMachine(list(heads))
-        begin, roads, end = parts_of_form(signs, table, worths)
-        steps = Steps(signs, begin, roads, end)
-        if not is_form(signs, heads, table, steps):
-            raise InvalidMachine(list(heads))
+        # A form that the program found itself is handed in as such, and is not proved again.
+        form = heads if isinstance(heads, Form) else _proved_form(signs, heads, table, worths)
         self._signs = signs
-        self._heads = list(heads)
-        self._table = [[list(row) for row in rows] for rows in table]
-        self._worths = list(worths)
-        self._steps = steps
+        self._heads = form.firsts
+        self.steps = form.steps
 
     @property
     def signs(self):
@@ -42,36 +35,35 @@ class Tariff:
     @property
     def table(self):
         """For each head, for each sign, the numbers for the heads, in new lists."""
-        return [[list(row) for row in rows] for rows in self._table]
+        return table_of(self._signs, self.steps)
 
     @property
     def worths(self):
         """The worths of the heads, in a new list."""
-        return list(self._worths)
+        return worths_of(self.steps)
 
     def __call__(self, message):
         """Returns the worth of a message."""
         check_message(self._signs, message)
-        return self._steps.worth(message)
+        return self.steps.worth(message)
 
     def __len__(self):
         return len(self._heads)
 
     def __eq__(self, other):
         # Two tariffs are alike for all messages exactly if they have the same form.
-        return (isinstance(other, Tariff) and self._signs == other._signs
-                and self._heads == other._heads and self._worths == other._worths
-                and self._table == other._table)
+        return (isinstance(other, Tariff) and self._signs == other._signs and self._heads == other._heads
+                and self.steps.last == other.steps.last and self.steps.of_sign == other.steps.of_sign)
 
 
 def tariff_of(machine):
     """Returns the tariff of a machine."""
-    return tariff_by(machine.signs, (machine.begin, machine.roads, machine.end))
+    return tariff_by(machine.signs, machine.steps)
 
 
 def machine_of(tariff):
     """Returns a machine of a tariff with one state for each head."""
-    begin, roads, end = parts_of(tariff)
+    begin, roads, end = parts_of_form(tariff.signs, tariff.table, tariff.worths)
     return Machine(tariff.signs, begin, roads, end)
 
 
@@ -80,14 +72,14 @@ def first_apart(one, other):
     check_like_signs([one, other])
     if one == other:
         return None
-    return first_worth_by(one.signs, beside(parts_of(one), multiplied(parts_of(other), (-1, 1))))
+    return first_worth_by(one.signs, beside(one.steps, multiplied(other.steps, (-1, 1))))
 
 
 def first_worth(tariff):
     """Returns the first message whose worth is not 0, None if there is none."""
     # A message with a worth, of which none ahead has one, is told by none ahead: it is a head.
-    for head, worth in zip(tariff.heads, tariff.worths):
-        if worth != (0, 1):
+    for head, above in zip(tariff.heads, tariff.steps.last[1]):
+        if above != 0:
             return head
     return None
 
@@ -100,13 +92,14 @@ def told_by(tariff, others):
     check_like_signs([tariff] + others)
     width, rows = _common_rows([tariff] + others)
     free = Free(width)
-    chosen = [at for at, row in enumerate(rows[1:]) if free.told(1, row) is None]
-    numbers = free.told(1, rows[0])
-    if numbers is None:
+    chosen = [at for at, row in enumerate(rows[1:]) if free.told(row) is None]
+    told = free.told(rows[0])
+    if told is None:
         return None
+    below, aboves = told
     found = [(0, 1)] * len(others)
-    for at, entry in zip(chosen, numbers):
-        found[at] = entry
+    for at, above in zip(chosen, aboves):
+        found[at] = number(above, below)
     return found
 
 
@@ -115,7 +108,7 @@ def free_ones(tariffs):
     check_like_signs(tariffs)
     width, rows = _common_rows(tariffs)
     free = Free(width)
-    return [at for at, row in enumerate(rows) if free.told(1, row) is None]
+    return [at for at, row in enumerate(rows) if free.told(row) is None]
 
 
 def check_like_signs(tariffs):
@@ -125,42 +118,60 @@ def check_like_signs(tariffs):
             raise UnlikeSigns(tariff.signs)
 
 
-def parts_of(tariff):
-    """Returns (begin, roads, end) of a machine of a tariff with one state for each head."""
-    return parts_of_form(tariff.signs, tariff.table, tariff.worths)
+def tariff_by(signs, steps):
+    """Returns the tariff of a machine with some steps."""
+    return tariff_by_form(signs, form_of(signs, steps))
 
 
-def steps_of(tariff):
-    """Returns the steps of a machine of a tariff with one state for each head."""
-    begin, roads, end = parts_of(tariff)
-    return Steps(tariff.signs, begin, roads, end)
+def tariff_by_form(signs, form):
+    """Returns the tariff with a form that was found."""
+    return Tariff(signs, form, [], [])
 
 
-def tariff_by(signs, parts):
-    """Returns the tariff of a machine with some parts (begin, roads, end)."""
-    begin, roads, end = parts
-    heads, table, worths = form_of(signs, Steps(signs, begin, roads, end))
-    return Tariff(signs, heads, table, worths)
+def first_worth_by(signs, steps):
+    """Returns the first message to which a machine with some steps gives a worth that is not 0."""
+    space = Space()
+    waiting = [("", steps.first[1])]
+    at = 0
+    while at < len(waiting):
+        message, row = waiting[at]
+        left = space.left_of({state: above for state, above in enumerate(row) if above != 0})
+        # What was taken off has the worth 0, so what is left tells whether this one has.
+        whole = [left.get(state, 0) for state in range(steps.size)]
+        if steps.worth_at(1, whole) != (0, 1):
+            return message
+        if left != {}:
+            space.take(left)
+            waiting.extend([(message + sign, steps.moved(1, whole, sign)[1]) for sign in signs])
+        at += 1
+    return None
 
 
-def first_worth_by(signs, parts):
-    """Returns the first message to which a machine with some parts gives a worth that is not 0."""
-    begin, roads, end = parts
-    return first_told(signs, Steps(signs, begin, roads, end))
+def _proved_form(signs, heads, table, worths):
+    """Returns the form with some heads, table and worths; raises an error if there is none."""
+    check_signs(signs)
+    check_numbers_within(table)
+    check_numbers_within(worths)
+    if not has_shape(signs, heads, table, worths):
+        raise InvalidMachine(list(heads))
+    begin, roads, end = parts_of_form(signs, table, worths)
+    steps = steps_by(signs, begin, roads, end)
+    if not is_form(signs, heads, table, steps):
+        raise InvalidMachine(list(heads))
+    return Form(list(heads), steps)
 
 
 def _common_rows(tariffs):
     """Returns (width, rows): a row for each tariff, which add up as the tariffs do."""
-    parts = ([], [], [])
-    firsts = []
-    for tariff in tariffs:
-        firsts.append(len(parts[0]))
-        parts = beside(parts, parts_of(tariff))
-    if parts[0] == []:
-        return 0, [{} for _ in tariffs]
-    begin, roads, end = parts
-    seen_by = views(Steps(tariffs[0].signs, begin, roads, end))
+    if tariffs == []:
+        return 0, []
+    steps = tariffs[0].steps
+    firsts = [0]
+    for tariff in tariffs[1:]:
+        firsts.append(steps.size)
+        steps = beside(steps, tariff.steps)
+    seen_by = views(steps)
     # A tariff without heads has no state of its own to be seen at.
-    rows = [{at: view[first] for at, view in enumerate(seen_by) if len(tariff) > 0 and first in view}
+    rows = [[view[first] if len(tariff) > 0 else 0 for view in seen_by]
             for tariff, first in zip(tariffs, firsts)]
     return len(seen_by), rows

@@ -9,13 +9,13 @@ class Free:
     """Rows that are free of each other, and what tells other rows by them.
 
     There are as many leads, columns in which no sum of multiples of the rows is 0 all over but the
-    one of zeros alone. For each lead there is (below, line): with these multiples the rows add up to
-    below in it, and to 0 in all other leads.
+    one of zeros alone. For each lead there is (lead, below, line): with the multiples of the line
+    the rows add up to below in this lead, and to 0 in all others.
     """
 
     def __init__(self, width):
         self._rows = []
-        self._lines = {}
+        self._lines = []
         self._others = list(range(width))
 
     def told(self, row):
@@ -23,18 +23,23 @@ class Free:
 
         Where there are none, it returns None, and this row is the next of the free ones.
         """
-        used = [(row[lead], told) for lead, told in self._lines.items() if row[lead] != 0]
         scale = 1
-        for entry, (below, _) in used:
-            if below != 1:
-                scale = lcm(scale, below // gcd(below, entry))
+        used = []
+        for lead, below, line in self._lines:
+            entry = row[lead]
+            if entry != 0:
+                used.append((entry, below, line))
+                if below != 1:
+                    scale = lcm(scale, below // gcd(below, entry))
         aboves = [0] * len(self._rows)
-        for entry, (below, line) in used:
+        for entry, below, line in used:
             times = entry * scale // below
             aboves = [above + times * factor for above, factor in zip(aboves, line)]
-        taken = [(above, free) for above, free in zip(aboves, self._rows) if above != 0]
         for column in self._others:
-            left = scale * row[column] - sum([above * free[column] for above, free in taken])
+            left = scale * row[column]
+            for above, free in zip(aboves, self._rows):
+                if above != 0:
+                    left -= above * free[column]
             if left != 0:
                 self._take(row, column, left, [-above for above in aboves] + [scale])
                 return None
@@ -45,16 +50,18 @@ class Free:
         if left < 0:
             left, line = -left, [-factor for factor in line]
         left, line = shortened(left, line)
-        for lead in list(self._lines):
-            below, factors = self._lines[lead]
-            entry = sum([factor * free[column] for factor, free in zip(factors, self._rows) if factor != 0])
+        entries = [free[column] for free in self._rows]
+        lines = []
+        for lead, below, factors in self._lines:
+            entry = sum([factor * above for factor, above in zip(factors, entries)])
             longer = factors + [0]
             if entry != 0:
                 common = gcd(entry, left)
                 scale, times = left // common, entry // common
                 below, longer = shortened(
                     below * scale, [scale * factor - times * taken for factor, taken in zip(longer, line)])
-            self._lines[lead] = (below, longer)
-        self._lines[column] = (left, line)
+            lines.append((lead, below, longer))
+        lines.append((column, left, line))
+        self._lines = lines
         self._rows.append(row)
         self._others = [other for other in self._others if other != column]

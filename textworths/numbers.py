@@ -75,7 +75,8 @@ def check_numbers_within(things):
 
 def is_pair(thing):
     """Tells whether something is a tuple of two integers."""
-    return isinstance(thing, tuple) and len(thing) == 2 and all([isinstance(part, int) for part in thing])
+    return (isinstance(thing, tuple) and len(thing) == 2
+            and isinstance(thing[0], int) and isinstance(thing[1], int))
 
 
 def common_below(pairs):

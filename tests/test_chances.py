@@ -199,14 +199,17 @@ class Memory(Chances):
         for many in range(most + 1):
             rests = {}
             for message in messages_to(signs, many + size):
-                if len(message) >= many:
-                    row = [chance(message + end) for end in ends]
-                    if any(row):
-                        rests.setdefault(message[len(message) - many:], []).append(row)
-            if all(one[0] * b == other[0] * a for rows in rests.values() for one, other in zip(rows, rows[1:])
-                   for a, b in zip(one, other)) and not any(row[0] == 0 for rows in rests.values() for row in rows):
+                row = [chance(message + end) for end in ends]
+                if len(message) >= many and any(row):
+                    rests.setdefault(message[len(message) - many:], []).append(row)
+            if all(self.are_multiples(rows) for rows in rests.values()):
                 return many
         return None
+
+    def are_multiples(self, rows):
+        first = rows[0]
+        at = next(at for at, entry in enumerate(first) if entry)
+        return all(a * first[at] == row[at] * b for row in rows for a, b in zip(row, first))
 
     def test_independent(self):
         for signs, source, chance in self.sources(10):
@@ -241,10 +244,14 @@ class Memory(Chances):
             self.assertEqual(remembers(self.last_of(order), 4), order)
 
     def test_against_rests(self):
-        for signs, source, chance in self.sources(12, 25, (1, 2, 2)):
-            if all(chance(message) > 0 for message in messages_to(signs, 5)):
-                wanted = self.plainly(signs, chance, len(source), 2)
-                self.assertEqual(remembers(source, 2), wanted)
+        random_source = random.Random(14)
+        for signs, source, chance in self.sources(12, 40, (1, 2, 2, 3)):
+            if len(signs) < 3:
+                self.assertEqual(remembers(source, 2), self.plainly(signs, chance, len(source), 2))
+        for _ in range(20):
+            source = chain("ab", random_source.choice([1, 2]), random_source)
+            chance = kept(lambda message: told(source(message)))
+            self.assertEqual(remembers(source, 2), self.plainly("ab", chance, len(source), 2))
 
     def test_never(self):
         # Which of two coins was taken is told by no number of last signs.

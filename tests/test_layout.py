@@ -93,6 +93,19 @@ def parameters(thing):
     return [name for name in inspect.signature(thing).parameters if name != "self"]
 
 
+def indexed_at_once(text):
+    """Returns the rows with a slice or an index directly behind what is iterated on the spot."""
+    found = []
+    for node in ast.walk(ast.parse(text)):
+        if isinstance(node, ast.Subscript) and isinstance(node.value, ast.Call):
+            called = node.value.func
+            if isinstance(called, ast.Name) and called.id in ("range", "zip", "enumerate", "reversed"):
+                found.append(node.lineno)
+            if isinstance(called, ast.Attribute) and called.attr in ("items", "keys", "values"):
+                found.append(node.lineno)
+    return found
+
+
 class Interface(unittest.TestCase):
     def test_names_and_parameters(self):
         for file, names in INTERFACE.items():
@@ -156,6 +169,21 @@ class Files(unittest.TestCase):
                 self.assertNotIsInstance(node, ast.Div, path)
                 if isinstance(node, ast.Constant):
                     self.assertNotIsInstance(node.value, (float, complex), path)
+
+    def test_nothing_iterated_at_once_has_an_index(self):
+        for path in FILES:
+            self.assertEqual(indexed_at_once(path.read_text()), [], path)
+
+    def test_an_index_on_what_is_iterated_at_once_is_seen(self):
+        wrong = [
+            "range(3)[::-1]", "range(3)[0]", "zip(a, b)[0]", "enumerate(a)[1:]", "reversed(a)[0]",
+            "d.items()[0]", "d.keys()[:2]", "self.d.values()[-1]", "(range(3))\\\n[::-1]",
+        ]
+        right = ["list(range(3))[::-1]", "reversed(range(3))", "range(3, -1, -1)", "range(a[0])", "d.get(1)[0]"]
+        for text in wrong:
+            self.assertEqual(indexed_at_once(text), [1], text)
+        for text in right:
+            self.assertEqual(indexed_at_once(text), [], text)
 
 
 if __name__ == "__main__":

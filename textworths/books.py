@@ -79,7 +79,7 @@ class Book:
     def _counts(self, text):
         """Returns how many messages the text has from each place on."""
         counts = [0] * len(text) + [1]
-        for at in range(len(text))[::-1]:
+        for at in reversed(range(len(text))):
             counts[at] = sum([counts[at + len(word)] for word in self._words if text.startswith(word, at)])
         return counts
 
